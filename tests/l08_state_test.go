@@ -870,8 +870,9 @@ func checkStOk(t *testing.T, st impl.St) {
 	}
 }
 
-func TestStatesThatAreWrong(t *testing.T) {
-	rows := map[string]func(st *impl.St){
+// wrongChanges are changes that make a state of stOn one that isn't right.
+func wrongChanges() map[string]func(st *impl.St) {
+	return map[string]func(st *impl.St){
 		"a number too many":      func(st *impl.St) { st.Data = make([]int32, 17) },
 		"far too many numbers":   func(st *impl.St) { st.Data = make([]int32, 1<<16) },
 		"a slot too many":        func(st *impl.St) { st.Ret = make([]impl.Slot, 25) },
@@ -905,7 +906,10 @@ func TestStatesThatAreWrong(t *testing.T) {
 		"far too much fuel":      func(st *impl.St) { st.Fuel = math.MaxInt },
 		"nothing at all":         func(st *impl.St) { *st = impl.St{} },
 	}
-	for what, change := range rows {
+}
+
+func TestStatesThatAreWrong(t *testing.T) {
+	for what, change := range wrongChanges() {
 		st := stOn(1, 2, 3)
 		change(&st)
 		checkWrongSt(t, what, st)
